@@ -1,0 +1,1 @@
+"""Filecross: papers filed under several heads by rules."""
