@@ -10,9 +10,14 @@ MOST_HEADS = 6
 MOST_PAPERS = 12
 
 
+def is_small(text):
+    """Tell whether the text is small letters, one at least."""
+    return text != "" and all(letter in LETTERS for letter in text)
+
+
 def is_word(text):
     """Tell whether the text is one to six small letters, as heads and names are."""
-    return 1 <= len(text) <= LONGEST_WORD and all(letter in LETTERS for letter in text)
+    return is_small(text) and len(text) <= LONGEST_WORD
 
 
 def is_marks(text):

@@ -35,6 +35,16 @@ def many_papers(count):
     return [(name, "") for name in letters(count)]
 
 
+def heads_in(rule):
+    """Tell all heads of the rule, rising."""
+    return sorted({head for head, needs, bars in rule} | {"rest"})
+
+
+def drawers(rule, lying):
+    """Tell the cabinet in which these names lie under these heads."""
+    return [(head, sorted(lying.get(head, []))) for head in heads_in(rule)]
+
+
 def random_rule(chance, most=7):
     """Tell a rule by this chance; few marks, so that its rows meet."""
     rows = []

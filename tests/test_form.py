@@ -13,6 +13,12 @@ INTERFACE = {
     "rules.py": {"heads_of": ["rule", "marks"], "main_of": ["rule", "marks"]},
     "filing.py": {"right": ["rule", "papers"], "found_by": ["rule", "papers", "name"]},
     "searching.py": {"slips": ["rule", "marks", "head"], "search": ["rule", "cabinet", "name", "marks"]},
+    "mending.py": {"amiss": ["rule", "papers", "cabinet"], "mended": ["rule", "papers", "cabinet"],
+                   "done": ["rule", "cabinet", "deeds"]},
+    "likeness.py": {"parting": ["one", "other"], "alike": ["one", "other"]},
+    "cards.py": {"needed": ["rule", "papers"], "come_to": ["cards", "head"],
+                 "enough": ["rule", "papers", "cards"], "fewest": ["rule", "papers"]},
+    "texts.py": {"written": ["rule"], "read_rule": ["text"]},
 }
 LIBRARY = {"itertools": {"combinations"}}
 

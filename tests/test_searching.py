@@ -6,15 +6,11 @@ from filecross.errors import BadCabinet, BadMarks, BadRule, NoHead
 from filecross.filing import right
 from filecross.rules import main_of
 from filecross.searching import search, slips
-from tests.samples import ALL_MARKS, MARKS, NO_MARKS, NO_WORDS, PAPERS, RULE, many_rows, random_rules, refused
+from tests.samples import (ALL_MARKS, MARKS, NO_MARKS, NO_WORDS, PAPERS, RULE, drawers, heads_in, many_rows,
+                           random_rules, refused)
 
 BAD_RULE = [("tax", "a", ""), ("rest", "", "")]
 SHADED = [("top", "a", ""), ("never", "ab", ""), ("also", "abc", ""), ("low", "b", "")]
-
-
-def heads_in(rule):
-    """Tell all heads of the rule, rising."""
-    return sorted({head for head, needs, bars in rule} | {"rest"})
 
 
 def walked(rule, marks):
@@ -27,11 +23,6 @@ def walked(rule, marks):
         beyond = {here ^ {mark} for here in edge for mark in named} - seen
         seen, edge, steps = seen | beyond, sorted(beyond, key=sorted), steps + 1
     return least
-
-
-def drawers(rule, lying):
-    """Tell the cabinet in which these names lie under these heads."""
-    return [(head, sorted(lying.get(head, []))) for head in heads_in(rule)]
 
 
 class Slips(unittest.TestCase):
